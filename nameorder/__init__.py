@@ -1,0 +1,1 @@
+"""The order of precedence among names."""
