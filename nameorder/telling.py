@@ -8,6 +8,7 @@ from nameorder.kept import Act, Code, Name, Work, name_day
 
 
 def is_code(limit, works, authors, window, span):
+    # The span, a number of days, has the bounds of a day.
     return is_day(limit) and is_demand(works) and is_demand(authors) and is_window(window) and is_day(span)
 
 
