@@ -65,9 +65,7 @@ def moment(kept, name):
 
 def works_using(kept, key, first_day, last_day):
     """The works from first_day to last_day, both included, that use the name of that key."""
-    found = []
-    for work_key, name_key in kept.uses:
-        work = kept.works[work_key]
-        if name_key == key and first_day <= work.day <= last_day:
-            found.append(work)
-    return found
+    return [
+        kept.works[work] for work, name in kept.uses
+        if name == key and first_day <= kept.works[work].day <= last_day
+    ]

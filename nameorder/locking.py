@@ -1,35 +1,9 @@
 """Which acts that set a name over another one count at a day."""
 
 from nameorder.bounds import CHOICE, REVERSAL, RULING
-from nameorder.kept import act_day, moment, name_day, works_using
+from nameorder.earning import is_earned
+from nameorder.kept import act_day, name_day
 from nameorder.standing import stands
-
-
-def count_authors(works):
-    return len(set([work.author for work in works]))
-
-
-def day_span(works):
-    if len(works) == 0:
-        return 0
-    days = [work.day for work in works]
-    return max(days) - min(days)
-
-
-def is_used_enough(kept, key, last_day):
-    """Whether the works of the window that ends on last_day use the name as much as the code asks."""
-    code = kept.code
-    works = works_using(kept, key, last_day - code.window + 1, last_day)
-    return len(works) >= code.works and count_authors(works) >= code.authors and day_span(works) >= code.span
-
-
-def is_earned(kept, reversal):
-    day = act_day(kept, reversal)
-    if moment(kept, kept.names[reversal.a]) < moment(kept, kept.names[reversal.b]):
-        return False
-    if len(works_using(kept, reversal.b, kept.code.limit, day)) > 0:
-        return False
-    return is_used_enough(kept, reversal.a, day)
 
 
 def hindrance(kept, act, d):
@@ -55,22 +29,30 @@ def asked_acts(kept, d):
     return sorted(asked, key=lambda act: (-act.kind, act_day(kept, act), act.key))
 
 
-def leads(locked, start, goal):
-    """Whether the name start leads to another name, goal, by the locked acts."""
-    reached = [start]
-    place = 0
-    while place < len(reached):
-        for act in locked:
-            if act.a == reached[place] and act.b not in reached:
-                reached.append(act.b)
-        place += 1
+def leads(lower_names, start, goal):
+    """Whether start leads to another name, goal; lower_names holds the names set straight under each name."""
+    reached = {start: True}
+    waiting = [start]
+    while len(waiting) > 0:
+        upper = waiting.pop()
+        for lower in lower_names.get(upper, []):
+            if lower not in reached:
+                reached[lower] = True
+                waiting.append(lower)
     return goal in reached
+
+
+def lock(asked):
+    """Those of the acts that are locked where they are asked one after another."""
+    locked = []
+    lower_names = {}
+    for act in asked:
+        if not leads(lower_names, act.b, act.a):
+            locked.append(act)
+            lower_names.setdefault(act.a, []).append(act.b)
+    return locked
 
 
 def locked_acts(kept, d):
     """The acts locked at the day d, in the order in which they were asked."""
-    locked = []
-    for act in asked_acts(kept, d):
-        if not leads(locked, act.b, act.a):
-            locked.append(act)
-    return locked
+    return lock(asked_acts(kept, d))

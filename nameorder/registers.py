@@ -1,8 +1,15 @@
 """The calls on one object, one behind another, and their answers."""
 
-from nameorder.bounds import ASIDE, CHOICE, OUT_OF_BOUNDS, RESTORE, REVERSAL, RULING, is_day
+from nameorder.account import account
+from nameorder.bounds import (
+    ASIDE, CHOICE, NOT_OF_THAT_SORT, OUT_OF_BOUNDS, RESTORE, REVERSAL, RULING, UNKNOWN, is_day,
+)
+from nameorder.changes import history
+from nameorder.earning import is_earned, tally
+from nameorder.fates import CLOSES_RING, fate, ring
 from nameorder.kept import Kept
-from nameorder.precedence import precedence
+from nameorder.locking import locked_acts
+from nameorder.precedence import comes_before, name_of_set, precedence, way_to_name
 from nameorder.standing import stands
 from nameorder.telling import tell_act_of_one, tell_act_of_two, tell_code, tell_name, tell_use, tell_work
 
@@ -44,31 +51,103 @@ def answer_restore(kept, given):
 
 
 def answer_stands(kept, given):
-    if not is_day(given[0]):
-        return [OUT_OF_BOUNDS]
     return [1 if stands(kept, given[1], given[0]) else 0]
 
 
 def answer_order(kept, given):
-    if not is_day(given[0]):
-        return [OUT_OF_BOUNDS]
     return [0] + precedence(kept, given[0])
 
 
-# By the number of a call: how many whole numbers it has, and what answers it.
+def answer_first(kept, given):
+    return [name_of_set(kept, given[0], given[1])]
+
+
+def answer_why(kept, given):
+    return [0] + way_to_name(kept, given[0], given[1])
+
+
+def answer_check(kept, given):
+    claimed = given[2]
+    return [1 if len(claimed) > 0 and claimed == way_to_name(kept, given[0], given[1]) else 0]
+
+
+def answer_before(kept, given):
+    d = given[0]
+    if not stands(kept, given[1], d) or not stands(kept, given[2], d):
+        return [UNKNOWN]
+    return [1 if comes_before(kept, d, given[1], given[2]) else 0]
+
+
+def answer_fate(kept, given):
+    if given[1] not in kept.acts:
+        return [UNKNOWN]
+    return [fate(kept, kept.acts[given[1]], given[0])]
+
+
+def answer_ring(kept, given):
+    if given[1] not in kept.acts:
+        return [UNKNOWN]
+    act = kept.acts[given[1]]
+    if fate(kept, act, given[0]) != CLOSES_RING:
+        return [NOT_OF_THAT_SORT]
+    return [0] + ring(kept, act, given[0])
+
+
+def answer_tally(kept, given):
+    if given[0] not in kept.acts:
+        return [UNKNOWN]
+    act = kept.acts[given[0]]
+    if act.kind != REVERSAL:
+        return [NOT_OF_THAT_SORT]
+    return [0] + tally(kept, act) + [1 if is_earned(kept, act) else 0]
+
+
+def answer_history(kept, given):
+    return [0] + history(kept, given[0])
+
+
+def answer_locked(kept, given):
+    return [0] + [act.key for act in locked_acts(kept, given[0])]
+
+
+def answer_told(kept, given):
+    return [0] + account(kept)
+
+
+# By the number of a call: how many whole numbers it has, how many rows behind them,
+# whether its first number is the day d, and what answers it.
 CALLS = (
-    (5, answer_code),
-    (3, answer_work),
-    (3, answer_name),
-    (2, answer_use),
-    (4, answer_choice),
-    (4, answer_reverse),
-    (4, answer_rule),
-    (3, answer_aside),
-    (3, answer_restore),
-    (2, answer_stands),
-    (1, answer_order),
+    (5, 0, False, answer_code),
+    (3, 0, False, answer_work),
+    (3, 0, False, answer_name),
+    (2, 0, False, answer_use),
+    (4, 0, False, answer_choice),
+    (4, 0, False, answer_reverse),
+    (4, 0, False, answer_rule),
+    (3, 0, False, answer_aside),
+    (3, 0, False, answer_restore),
+    (2, 0, True, answer_stands),
+    (1, 0, True, answer_order),
+    (1, 1, True, answer_first),
+    (1, 1, True, answer_why),
+    (1, 2, True, answer_check),
+    (3, 0, True, answer_before),
+    (2, 0, True, answer_fate),
+    (2, 0, True, answer_ring),
+    (1, 0, False, answer_tally),
+    (0, 1, False, answer_history),
+    (1, 0, True, answer_locked),
+    (0, 0, False, answer_told),
 )
+
+
+def answer_one(kept, number, given):
+    """The answer of the call of that number; given holds its whole numbers and then its rows."""
+    form = CALLS[number]
+    if form[2] and not is_day(given[0]):
+        return [OUT_OF_BOUNDS]
+    answerer = form[3]
+    return answerer(kept, given)
 
 
 def answers(calls):
@@ -77,11 +156,15 @@ def answers(calls):
     answered = []
     place = 0
     while place < len(calls):
-        call = CALLS[calls[place]]
+        number = calls[place]
         start = place + 1
-        place = start + call[0]
-        answerer = call[1]
-        answer = answerer(kept, calls[start:place])
+        place = start + CALLS[number][0]
+        given = calls[start:place]
+        for row in range(CALLS[number][1]):
+            start = place + 1
+            place = start + calls[place]
+            given.append(calls[start:place])
+        answer = answer_one(kept, number, given)
         answered.append(len(answer))
         answered.extend(answer)
     return answered

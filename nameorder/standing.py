@@ -8,7 +8,7 @@ def acts_of_standing(kept, key, d):
     """The acts up to the day d that set the name of that key aside or restore it."""
     return [
         act for act in kept.acts.values()
-        if act.kind in (ASIDE, RESTORE) and act.a == key and act_day(kept, act) <= d
+        if act.a == key and act.kind in (ASIDE, RESTORE) and act_day(kept, act) <= d
     ]
 
 

@@ -50,6 +50,46 @@ def order(d):
     return [10, d]
 
 
+def first(d, s):
+    return [11, d, len(s)] + list(s)
+
+
+def why(d, s):
+    return [12, d, len(s)] + list(s)
+
+
+def check(d, s, claimed):
+    return [13, d, len(s)] + list(s) + [len(claimed)] + list(claimed)
+
+
+def before(d, a, b):
+    return [14, d, a, b]
+
+
+def fate(d, key):
+    return [15, d, key]
+
+
+def ring(d, key):
+    return [16, d, key]
+
+
+def tally(key):
+    return [17, key]
+
+
+def history(s):
+    return [18, len(s)] + list(s)
+
+
+def locked(d):
+    return [19, d]
+
+
+def told():
+    return [20]
+
+
 def joined(calls):
     return [number for call in calls for number in call]
 
@@ -74,18 +114,18 @@ def run(calls):
     return parts
 
 
-def run_told(told, asked):
-    """The answers of the calls asked, behind calls told that must all be taken."""
-    parts = run(list(told) + list(asked))
-    for call, part in zip(told, parts):
+def run_told(telling, asked):
+    """The answers of the calls asked, behind calls that tell something and must all be taken."""
+    parts = run(list(telling) + list(asked))
+    for call, part in zip(telling, parts):
         if part != [0]:
             raise AssertionError(f"{call} was answered {part}")
-    return parts[len(told):]
+    return parts[len(telling):]
 
 
-def order_at(told, d):
+def order_at(telling, d):
     """The order at the day d behind calls that must all be taken."""
-    part = run_told(told, [order(d)])[0]
+    part = run_told(telling, [order(d)])[0]
     if part[0] != 0:
         raise AssertionError(f"order was answered {part}")
     return part[1:]

@@ -46,6 +46,10 @@ def bound_names(tree):
             yield node.id
 
 
+def is_call_of(node, names):
+    return isinstance(node, ast.Call) and isinstance(node.func, ast.Name) and node.func.id in names
+
+
 class TestForm(unittest.TestCase):
     def test_files(self):
         self.assertIn(PACKAGE / "__init__.py", FILES)
@@ -142,6 +146,27 @@ class TestForm(unittest.TestCase):
                     self.assertNotIn(node.arg, top)
                 if isinstance(node, ast.Name) and isinstance(node.ctx, ast.Store):
                     self.assertNotIn(node.id, top)
+
+    def test_sets_stand_straight_within_len_or_sorted(self):
+        for file_name, tree in TREES.items():
+            made = {id(node) for node in ast.walk(tree) if is_call_of(node, ("set", "frozenset"))}
+            asked = {
+                id(node.args[0]) for node in ast.walk(tree) if is_call_of(node, ("len", "sorted")) and not node.keywords
+            }
+            self.assertLessEqual(made, asked, file_name)
+
+    def test_what_is_walked_at_once(self):
+        for file_name, tree in TREES.items():
+            walked = {id(node.iter) for node in ast.walk(tree) if isinstance(node, (ast.For, ast.comprehension))}
+            for node in ast.walk(tree):
+                if is_call_of(node, "list tuple dict sorted sum any all enumerate zip min max".split()) and node.args:
+                    walked.add(id(node.args[0]))
+            for node in ast.walk(tree):
+                if is_call_of(node, ("zip", "enumerate", "reversed", "range")):
+                    self.assertIn(id(node), walked, file_name)
+                if isinstance(node, ast.Call) and isinstance(node.func, ast.Attribute):
+                    if node.func.attr in ("items", "keys", "values"):
+                        self.assertIn(id(node), walked, file_name)
 
     def test_methods_and_values(self):
         for file_name, tree in TREES.items():

@@ -3,7 +3,8 @@
 import unittest
 
 from lines import (
-    GREATEST, LAST_DAY, aside, choice, code, name, order, restore, reverse, rule, run, run_told, stands, use, work,
+    GREATEST, LAST_DAY, aside, choice, code, name, order, restore, reverse, rule, run, run_told, stands, told, use,
+    work,
 )
 
 FAR = 1000000000000
@@ -20,7 +21,8 @@ SCENE = [
 
 # What would answer otherwise if a refused call had kept something.
 PROBES = (
-    [order(d) for d in (100, 200, 300, 590, 600, LAST_DAY)]
+    [told()]
+    + [order(d) for d in (100, 200, 300, 590, 600, LAST_DAY)]
     + [stands(LAST_DAY, key) for key in (0, 1, 2, 3, 4, 5, 6, 7)]
     + [work(key, 150, 9) for key in (1, 5, 6, 7, GREATEST)]
     + [name(key, 6, 9) for key in (1, 4, 5, 6, 7, GREATEST)]
@@ -32,16 +34,15 @@ PROBES = (
 
 
 class RefusalCase(unittest.TestCase):
-    def refused(self, call, number, told=SCENE):
+    def refused(self, call, number, telling=SCENE):
         """The call is refused with that number, and what follows is as if it had not been there."""
-        told = list(told)
-        without = run_told(told, PROBES)
-        given = run_told(told, [call] + PROBES)
+        without = run_told(telling, PROBES)
+        given = run_told(telling, [call] + PROBES)
         self.assertEqual(given[0], [number], call)
         self.assertEqual(given[1:], without, call)
 
-    def taken(self, call, told=SCENE):
-        self.assertEqual(run_told(list(told), [call]), [[0]], call)
+    def taken(self, call, telling=SCENE):
+        self.assertEqual(run_told(telling, [call]), [[0]], call)
 
 
 class TestCode(RefusalCase):
@@ -100,9 +101,9 @@ class TestWork(RefusalCase):
         self.refused(work(5, 600, 5), -5)
 
     def test_keys_are_apart_from_those_of_names_and_acts(self):
-        told = [work(9, 1), name(7, 9), name(8, 9), rule(6, 9, 7, 8)]
+        telling = [work(9, 1), name(7, 9), name(8, 9), rule(6, 9, 7, 8)]
         for key in (6, 7, 8):
-            self.taken(work(key, 5, 5), told)
+            self.taken(work(key, 5, 5), telling)
 
     def test_order_of_refusals(self):
         self.refused(work(0, -1, 0), -4)
@@ -110,16 +111,16 @@ class TestWork(RefusalCase):
         self.refused(work(1, 5, 0), -9)
 
     def test_at_most_80(self):
-        told = [work(key, 5) for key in range(1, 80)]
+        telling = [work(key, 5) for key in range(1, 80)]
         self.assertEqual(
-            run_told(told, [work(0, 5), work(1, 5), work(80, 5), work(81, 5), name(1, 80), name(2, 81)]),
+            run_told(telling, [work(0, 5), work(1, 5), work(80, 5), work(81, 5), name(1, 80), name(2, 81)]),
             [[-4], [-5], [0], [-8], [0], [-6]],
         )
 
     def test_refusals_before_full(self):
-        told = [work(key, 5) for key in range(1, 81)]
+        telling = [work(key, 5) for key in range(1, 81)]
         self.assertEqual(
-            run_told(told, [work(81, 5), work(0, 5), work(81, -1), work(81, 5, 0), work(80, 5)]),
+            run_told(telling, [work(81, 5), work(0, 5), work(81, -1), work(81, 5, 0), work(80, 5)]),
             [[-8], [-4], [-9], [-9], [-5]],
         )
 
@@ -150,9 +151,9 @@ class TestName(RefusalCase):
         self.taken(name(6, 3, 5))
 
     def test_keys_are_apart_from_those_of_works_and_acts(self):
-        told = [work(9, 1), name(7, 9), name(8, 9), rule(6, 9, 7, 8)]
+        telling = [work(9, 1), name(7, 9), name(8, 9), rule(6, 9, 7, 8)]
         for key in (6, 9):
-            self.taken(name(key, 9), told)
+            self.taken(name(key, 9), telling)
 
     def test_order_of_refusals(self):
         self.refused(name(0, 77, 0), -4)
@@ -160,16 +161,16 @@ class TestName(RefusalCase):
         self.refused(name(1, 77, 5), -5)
 
     def test_at_most_40(self):
-        told = [work(1, 5)] + [name(key, 1) for key in range(1, 40)]
+        telling = [work(1, 5)] + [name(key, 1) for key in range(1, 40)]
         self.assertEqual(
-            run_told(told, [name(0, 1), name(40, 1), name(41, 1), use(1, 40), use(1, 41), stands(5, 41)]),
+            run_told(telling, [name(0, 1), name(40, 1), name(41, 1), use(1, 40), use(1, 41), stands(5, 41)]),
             [[-4], [0], [-8], [0], [-6], [0]],
         )
 
     def test_refusals_before_full(self):
-        told = [work(1, 5)] + [name(key, 1) for key in range(1, 41)]
+        telling = [work(1, 5)] + [name(key, 1) for key in range(1, 41)]
         self.assertEqual(
-            run_told(told, [name(41, 1), name(0, 1), name(41, 1, 0), name(40, 1), name(41, 2)]),
+            run_told(telling, [name(41, 1), name(0, 1), name(41, 1, 0), name(40, 1), name(41, 2)]),
             [[-8], [-4], [-9], [-5], [-6]],
         )
 
@@ -189,8 +190,8 @@ class TestUse(RefusalCase):
             self.refused(use(5, key), -6)
 
     def test_not_before_the_day_of_the_name(self):
-        told = [work(1, 10), work(2, 9), work(3, 10), work(4, 11), name(1, 1)]
-        self.assertEqual(run_told(told, [use(2, 1), use(3, 1), use(4, 1)]), [[-15], [0], [0]])
+        telling = [work(1, 10), work(2, 9), work(3, 10), work(4, 11), name(1, 1)]
+        self.assertEqual(run_told(telling, [use(2, 1), use(3, 1), use(4, 1)]), [[-15], [0], [0]])
         self.refused(use(1, 2), -15)
         self.refused(use(4, 1), -15, [work(4, 0), work(1, LAST_DAY), name(1, 1)])
 
@@ -203,19 +204,19 @@ class TestUse(RefusalCase):
         self.refused(use(1, 77), -6)
 
     def test_at_most_200(self):
-        told = [work(key, 5) for key in range(1, 9)] + [name(key, 1) for key in range(1, 27)]
+        telling = [work(key, 5) for key in range(1, 9)] + [name(key, 1) for key in range(1, 27)]
         pairs = [use(key, other) for key in range(1, 9) for other in range(1, 27)]
-        told = told + pairs[:199]
+        telling = telling + pairs[:199]
         self.assertEqual(
-            run_told(told, [pairs[0], pairs[199], pairs[200], pairs[199]]), [[-5], [0], [-8], [-5]],
+            run_told(telling, [pairs[0], pairs[199], pairs[200], pairs[199]]), [[-5], [0], [-8], [-5]],
         )
 
     def test_refusals_before_full(self):
-        told = [work(key, 5) for key in range(1, 9)] + [name(key, 1) for key in range(1, 27)] + [work(9, 4)]
+        telling = [work(key, 5) for key in range(1, 9)] + [name(key, 1) for key in range(1, 27)] + [work(9, 4)]
         pairs = [use(key, other) for key in range(1, 9) for other in range(1, 27)]
-        told = told + pairs[:200]
+        telling = telling + pairs[:200]
         self.assertEqual(
-            run_told(told, [pairs[200], use(10, 1), use(1, 27), use(9, 1), pairs[0]]),
+            run_told(telling, [pairs[200], use(10, 1), use(1, 27), use(9, 1), pairs[0]]),
             [[-8], [-6], [-6], [-15], [-5]],
         )
 
@@ -323,11 +324,11 @@ class TestMostActs(unittest.TestCase):
             )
 
     def test_a_refused_act_does_not_count(self):
-        told = self.filled(60)
+        telling = self.filled(60)
         for make in self.MAKERS:
-            given = run_told(told, [order(5), make(61), order(5), stands(5, 1)])
+            given = run_told(telling, [order(5), make(61), order(5), stands(5, 1)])
             self.assertEqual(given[1], [-8])
-            self.assertEqual([given[0], given[2], given[3]], run_told(told, [order(5), order(5), stands(5, 1)]))
+            self.assertEqual([given[0], given[2], given[3]], run_told(telling, [order(5), order(5), stands(5, 1)]))
 
     def test_refusals_before_full(self):
         for call in (choice, reverse, rule):
